@@ -1,0 +1,1 @@
+"""Films cut and joined: frames of sources on tracks, and the edits that change them."""
