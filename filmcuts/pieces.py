@@ -4,11 +4,11 @@ No function here changes a piece or a row that it is handed: each gives back a n
 refused leaves nothing behind, and rows of different times may share their pieces.
 """
 
-# The number by which pieces of nothing are told; no source can have it.
-NOTHING = 255
+from filmcuts.limits import MOST_FRAMES
+from filmcuts.limits import MOST_PIECES
 
-MOST_FRAMES = 16777216
-MOST_PIECES = 256
+# Below 0, so that no number that's handed in for a source is taken for it.
+NOTHING = -1
 
 
 class Piece:

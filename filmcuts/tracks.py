@@ -2,6 +2,9 @@
 
 from filmcuts.film import Film
 from filmcuts.pieces import Piece
+from filmcuts.refusals import DONE
+from filmcuts.times import frame_of
+from filmcuts.times import time_of
 
 
 def answer_begin(film, given):
@@ -44,6 +47,49 @@ def answer_slide(film, given):
     return [film.slide(given[0], given[1], given[2])]
 
 
+def answer_longer(film, given):
+    return [film.longer(given[0], given[1], given[2])]
+
+
+def answer_undo(film, given):
+    return [film.undo()]
+
+
+def answer_redo(film, given):
+    return [film.redo()]
+
+
+def answer_seen(film, given):
+    return film.seen(given[0], given[1])
+
+
+def answer_piece(film, given):
+    return film.piece(given[0], given[1])
+
+
+def answer_length(film, given):
+    return [film.longest()]
+
+
+def answer_time(film, given):
+    return time_of(given[0], given[1])
+
+
+def answer_frame(film, given):
+    return [frame_of(given[0], given[1], given[2], given[3], given[4])]
+
+
+def answer_write(film, given):
+    return [DONE] + film.write()
+
+
+def answer_read(film, given):
+    return [film.read(given)]
+
+
+# How many numbers a call has of which the list itself says how many they are.
+COUNTED = -1
+
 # By the call's number: what answers it, and how many numbers are handed to it.
 CALLS = {
     0: (answer_begin, 0),
@@ -56,6 +102,16 @@ CALLS = {
     7: (answer_slip, 3),
     8: (answer_roll, 3),
     9: (answer_slide, 3),
+    10: (answer_longer, 3),
+    11: (answer_undo, 0),
+    12: (answer_redo, 0),
+    13: (answer_seen, 2),
+    14: (answer_piece, 2),
+    15: (answer_length, 0),
+    16: (answer_time, 2),
+    17: (answer_frame, 5),
+    18: (answer_write, 0),
+    19: (answer_read, -1),
 }
 
 
@@ -65,11 +121,15 @@ def answer_all(film, calls):
     place = 0
     while place < len(calls):
         handler = CALLS[calls[place]][0]
-        end = place + 1 + CALLS[calls[place]][1]
-        answer = handler(film, calls[place + 1:end])
+        count = CALLS[calls[place]][1]
+        place += 1
+        if count == COUNTED:
+            count = calls[place]
+            place += 1
+        answer = handler(film, calls[place:place + count])
         told.append(len(answer))
         told.extend(answer)
-        place = end
+        place += count
     return told
 
 

@@ -1,24 +1,40 @@
-"""The same edits told frame by frame, to be held against the program.
+"""The same film told frame by frame, to be held against the program.
 
 A track is a list of cells: None for nothing, or (source, its frame, whether a piece begins here).
 It is far too slow for long tracks; at is therefore small in what's asked of it, or above the most.
 """
 
+import re
+
 MOST = 16777216
 MOST_PIECES = 256
+MOST_UNDONE = 32
+
+NUMBER = b"(?:0|[1-9][0-9]{0,7})"
+LINE = b"(?:" + NUMBER + b" " + NUMBER + b" " + NUMBER + b"|- " + NUMBER + b")\n"
+LIST = re.compile(b"(?:(?:" + LINE + b")*;\n){8}")
 
 
 class Model:
+    """Each call gives back the list of numbers that are answered."""
+
     def __init__(self):
         self.begin()
 
-    def call(self, name, *given):
-        return getattr(self, name)(*given)
+    def call(self, name, given):
+        answer = getattr(self, name)(*given)
+        return answer if isinstance(answer, list) else [answer]
 
     def begin(self):
         self.sources = {}
-        self.tracks = [[] for _ in range(8)]
+        # The tracks at each time that can still be come to, and which of these is now.
+        self.times = [[[] for _ in range(8)]]
+        self.now = 0
         return 0
+
+    @property
+    def tracks(self):
+        return self.times[self.now]
 
     def source(self, number, frames):
         if number > 31 or not 1 <= frames <= MOST:
@@ -98,6 +114,11 @@ class Model:
         return self.lay(track, at, d, [-1, 0, 1],
                         lambda runs: [ended(runs[0], d), runs[1], begun_by(runs[2], d)])
 
+    def longer(self, track, at, d):
+        if track > 7 or at > MOST:
+            return -22
+        return self.lay(track, at, d, [0], lambda runs: [ended(runs[0], d)])
+
     def lay(self, track, at, d, steps, change):
         """Change the pieces that lie so many steps from the one at the frame."""
         runs = runs_of(self.tracks[track])
@@ -117,19 +138,75 @@ class Model:
         start = runs[places[0]][0]
         cells = [cell for run in new for cell in run]
         old = self.tracks[track]
-        return self.store({track: old[:start] + cells + old[start + len(cells):]})
+        return self.store({track: old[:start] + cells + old[start + sum(len(run) for run in taken):]})
 
     def store(self, changed):
         changed = {k: stripped(row) for k, row in changed.items()}
         for row in changed.values():
             if len(row) > MOST or len(runs_of(row)) > MOST_PIECES:
                 return -28
-        for k, row in changed.items():
-            self.tracks[k] = row
+        new = [changed.get(k, row) for k, row in enumerate(self.tracks)]
+        self.times = (self.times[:self.now + 1] + [new])[-MOST_UNDONE - 1:]
+        self.now = len(self.times) - 1
         return 0
 
-    def shown(self):
-        return [[shown_run(run) for _, run in runs_of(row)] for row in self.tracks]
+    def undo(self):
+        if self.now == 0:
+            return -61
+        self.now -= 1
+        return 0
+
+    def redo(self):
+        if self.now + 1 == len(self.times):
+            return -61
+        self.now += 1
+        return 0
+
+    def seen(self, track, at):
+        if track > 7 or at > MOST:
+            return -22
+        cell = self.tracks[track][at] if at < len(self.tracks[track]) else None
+        return 0 if cell is None else [1, cell[0], cell[1]]
+
+    def piece(self, track, k):
+        if track > 7:
+            return -22
+        runs = runs_of(self.tracks[track])
+        if k >= len(runs):
+            return 0
+        run = runs[k][1]
+        return [1, 255, 0, len(run)] if run[0] is None else [1, run[0][0], run[0][1], len(run)]
+
+    def length(self):
+        return max(len(row) for row in self.tracks)
+
+    def write(self):
+        text = ""
+        for row in self.tracks:
+            for _, run in runs_of(row):
+                if run[0] is None:
+                    text += f"- {len(run)}\n"
+                else:
+                    text += f"{run[0][0]} {run[0][1]} {len(run)}\n"
+            text += ";\n"
+        return [0] + list(text.encode("ascii"))
+
+    def read(self, *given):
+        t = bytes(given[1:])
+        if LIST.fullmatch(t) is None:
+            return -71
+        rows = []
+        for part in t.split(b";\n")[:8]:
+            row = []
+            for line in part.splitlines():
+                words = line.split()
+                frames = int(words[-1])
+                new = [None] * frames if words[0] == b"-" else self.cells(int(words[0]), int(words[1]), frames)
+                if not new:
+                    return -2
+                row += new
+            rows.append(row)
+        return self.store(dict(enumerate(rows)))
 
 
 def padded(row, at):
@@ -161,12 +238,6 @@ def runs_of(row):
         else:
             runs.append((at, [cell]))
     return runs
-
-
-def shown_run(run):
-    if run[0] is None:
-        return ("-", len(run))
-    return (run[0][0], run[0][1], len(run))
 
 
 def moved(run, d):

@@ -1,15 +1,14 @@
-"""Long rows of calls, drawn from fixed seeds, held against the edits told frame by frame."""
+"""Long rows of calls, drawn from fixed seeds, held against the film told frame by frame."""
 
 import random
 import unittest
 
-from filmcuts.film import Film
-from filmcuts.tracks import answer_all
-from helper import BIGGEST, HIGHEST_D, LOWEST_D, MOST, shown
+from helper import BIGGEST, HIGHEST_D, LOWEST_D, MOST, answered, first_difference
 from model import Model
 
-NUMBERS = {"begin": 0, "source": 1, "over": 2, "between": 3, "lift": 4,
-           "out": 5, "cut": 6, "slip": 7, "roll": 8, "slide": 9}
+NAMES = ["begin", "source", "over", "between", "lift", "out", "cut", "slip", "roll", "slide", "longer", "undo", "redo",
+         "seen", "piece", "length", "time", "frame", "write", "read"]
+EDITS = ["over", "between", "lift", "out", "cut", "slip", "roll", "slide", "longer", "read"]
 
 
 class Draw:
@@ -43,6 +42,30 @@ class Draw:
             return [a, self.random.choice([a, max(a - 1, 0), MOST, MOST + 1, BIGGEST])]
         return [a, a + self.random.randrange(1, longest)]
 
+    def list(self):
+        """The bytes of a list, now and then with one that's wrong."""
+        text = ""
+        for track in range(8):
+            for _ in range(self.random.choice([0, 1, 3])):
+                frames = self.random.randrange(1, 5)
+                if self.seldom(3):
+                    text += f"- {frames}\n"
+                else:
+                    text += f"{self.random.randrange(3)} {self.random.randrange(8)} {frames}\n"
+            text += ";\n"
+        t = list(text.encode("ascii"))
+        place = self.random.randrange(len(t))
+        fault = self.random.randrange(8)
+        if fault == 0:
+            t[place] = self.random.choice(b"\n -;0123459")
+        elif fault == 1:
+            t.pop(place)
+        elif fault == 2:
+            t.insert(place, self.random.choice(b"\n -;0123459"))
+        elif fault == 3:
+            t[place] = self.random.randrange(256)
+        return [len(t)] + t
+
     def call(self, names):
         name = self.random.choice(names)
         if name in ("over", "between"):
@@ -51,46 +74,100 @@ class Draw:
             return name, [self.track()] + self.span(8)
         if name == "out":
             return name, self.span(6)
-        if name == "cut":
+        if name in ("cut", "seen"):
             return name, [self.track(), self.at()]
+        if name == "piece":
+            return name, [self.track(), self.random.choice([0, 1, 2, 3, 5, 8, 13, 255, 256, BIGGEST])]
+        if name in ("undo", "redo", "length", "write"):
+            return name, []
+        if name == "read":
+            return name, self.list()
         return name, [self.track(), self.at(), self.d()]
 
 
 class AgainstModel(unittest.TestCase):
-    def run_both(self, seed, frames, names, count, ahead=()):
-        draw = Draw(seed, frames)
-        film = Film()
+    def run_both(self, calls, note):
+        """All that is answered to the calls is as the model answers; which calls had which first answers."""
         model = Model()
-        calls = [("begin", []), ("source", [0, 30]), ("source", [1, 17]), ("source", [2, 11])]
-        calls += list(ahead) + [draw.call(names) for _ in range(count)]
-        seen = {}
+        expected = [model.call(name, given) for name, given in calls]
+        parts = answered([[NAMES.index(name)] + given for name, given in calls])
+        had = {}
         for k, (name, given) in enumerate(calls):
-            answer = answer_all(film, [NUMBERS[name]] + given)
-            expected = model.call(name, *given)
-            self.assertEqual(answer, [1, expected], (seed, k, name, given))
-            seen[(name, expected)] = True
-            rows = [[shown(piece) for piece in row] for row in film.tracks]
-            self.assertEqual(rows, model.shown(), (seed, k, name, given))
-        return seen
+            self.assertIsNone(first_difference(parts[k], expected[k]), (note, k, name, given))
+            had[(name, expected[k][0])] = True
+        return had
+
+    def begun(self):
+        return [("begin", []), ("source", [0, 30]), ("source", [1, 17]), ("source", [2, 11])]
+
+    def seen_all(self, frames):
+        return [("seen", [track, at]) for track in (0, 1, 7) for at in range(frames)]
 
     def test_short_tracks(self):
-        names = ["over", "over", "between", "lift", "out", "out", "cut", "slip", "roll", "slide"]
-        seen = {}
+        names = ["over", "over", "between", "lift", "out", "out", "cut", "slip", "roll", "slide", "longer",
+                 "undo", "redo", "seen", "piece", "length"]
+        had = {}
         for seed in range(30):
-            seen.update(self.run_both(seed, 40, names, 300))
-        for name in ("slip", "roll", "slide"):
+            draw = Draw(seed, 40)
+            calls = self.begun()
+            for _ in range(300):
+                calls += [draw.call(names), ("write", [])]
+            had.update(self.run_both(calls, seed))
+        for name in ("slip", "roll", "slide", "longer"):
             for answer in (0, -22, -61):
-                self.assertIn((name, answer), seen)
+                self.assertIn((name, answer), had)
+        for name, answer in (("seen", 0), ("seen", 1), ("seen", -22), ("piece", 0), ("piece", 1), ("piece", -22)):
+            self.assertIn((name, answer), had)
+
+    def test_each_frame_behind_each_edit(self):
+        for seed in range(200, 210):
+            draw = Draw(seed, 30)
+            calls = self.begun()
+            for _ in range(40):
+                calls += [draw.call(EDITS)] + self.seen_all(45) + [("length", []), ("write", [])]
+                calls += [("piece", [track, k]) for track in (0, 1, 7) for k in range(12)]
+            self.run_both(calls, seed)
+
+    def test_undone_and_done_again(self):
+        had = {}
+        for seed in range(300, 330):
+            draw = Draw(seed, 30)
+            calls = self.begun()
+            for _ in range(40):
+                name = draw.random.choice(["undo", "redo", "edit"])
+                times = draw.random.choice([1, 1, 2, 3, 10, 31, 32, 33, 40])
+                for _ in range(times):
+                    calls += [draw.call(EDITS) if name == "edit" else (name, []), ("write", [])]
+            had.update(self.run_both(calls, seed))
+        for name in ("undo", "redo"):
+            for answer in (0, -61):
+                self.assertIn((name, answer), had)
+
+    def test_lists_read(self):
+        had = {}
+        for seed in range(400, 420):
+            draw = Draw(seed, 20)
+            calls = self.begun()
+            for _ in range(60):
+                calls += [draw.call(["read", "read", "read", "over", "undo", "redo"]), ("write", [])]
+            had.update(self.run_both(calls, seed))
+        for answer in (0, -2, -71):
+            self.assertIn(("read", answer), had)
 
     def test_tracks_that_fill_up(self):
-        names = ["over", "between", "out", "slip", "roll", "slide"] + ["lift"] * 3 + ["cut"] * 9
+        names = (["over", "between", "out", "slip", "roll", "slide", "longer", "undo", "redo"] + ["lift"] * 3
+                 + ["cut"] * 9)
         ahead = [("over", [track, k * 5, 0, 0, 5]) for track in (0, 1, 7) for k in range(250)]
-        seen = {}
+        had = {}
         for seed in range(100, 104):
-            seen.update(self.run_both(seed, 1250, names, 300, ahead))
+            draw = Draw(seed, 1250)
+            calls = self.begun() + ahead
+            for _ in range(300):
+                calls += [draw.call(names), ("write", [])]
+            had.update(self.run_both(calls, seed))
         for name in ("over", "between", "lift", "cut", "out"):
             for answer in (0, -22, -28):
-                self.assertIn((name, answer), seen)
+                self.assertIn((name, answer), had)
 
 
 if __name__ == "__main__":

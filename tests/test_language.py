@@ -48,6 +48,16 @@ def nodes(*kinds):
                 yield f"{name}:{getattr(node, 'lineno', 0)}", node
 
 
+def is_plain(node, defined):
+    if isinstance(node, ast.UnaryOp):
+        return isinstance(node.op, ast.USub) and isinstance(node.operand, ast.Constant)
+    if isinstance(node, (ast.List, ast.Tuple)):
+        return all(is_plain(part, defined) for part in node.elts)
+    if isinstance(node, ast.Dict):
+        return all(is_plain(part, defined) for part in node.keys + node.values)
+    return isinstance(node, ast.Constant) or (isinstance(node, ast.Name) and node.id in defined)
+
+
 class Files(unittest.TestCase):
     def test_names(self):
         self.assertTrue((PACKAGE / "__init__.py").is_file())
@@ -90,6 +100,13 @@ class Forms(unittest.TestCase):
                 elif isinstance(node, ast.ImportFrom):
                     bound.extend(alias.name for alias in node.names)
             self.assertEqual(sorted(bound), sorted(set(bound)), name)
+
+    def test_values_at_the_top_are_plain(self):
+        for name, tree in trees():
+            defined = {node.name for node in tree.body if isinstance(node, ast.FunctionDef)}
+            for node in tree.body:
+                if isinstance(node, ast.Assign):
+                    self.assertTrue(is_plain(node.value, defined), f"{name}:{node.lineno}")
 
     def test_imports(self):
         defined = {name: {getattr(node, "name", None) or node.targets[0].id for node in tree.body
@@ -149,11 +166,27 @@ class Forms(unittest.TestCase):
         for where, node in nodes(ast.Expr):
             self.assertTrue(isinstance(node.value, ast.Call) or isinstance(node.value.value, str), where)
 
+    def test_errors(self):
+        own = {node.name for _, node in nodes(ast.ClassDef)}
+        for where, node in nodes(ast.ExceptHandler):
+            self.assertIsInstance(node.type, ast.Name, where)
+            self.assertIn(node.type.id, own, where)
+        for where, node in nodes(ast.Raise):
+            self.assertIsInstance(node.exc, ast.Call, where)
+            self.assertIn(node.exc.func.id, own, where)
+        for where, node in nodes(ast.Try):
+            self.assertEqual(node.finalbody, [], where)
+
     def test_expressions(self):
         for where, node in nodes(ast.BinOp, ast.AugAssign):
             self.assertNotIsInstance(node.op, (ast.Div, ast.MatMult, ast.Pow), where)
         for where, node in nodes(ast.Constant):
             self.assertTrue(node.value is None or type(node.value) in (int, str, bool), where)
+            if type(node.value) is str:
+                self.assertNotIn("%", node.value, where)
+        for where, node in nodes(ast.FormattedValue):
+            self.assertIsInstance(node.value, ast.Name, where)
+            self.assertIsNone(node.format_spec, where)
         for where, node in nodes(ast.ListComp):
             self.assertEqual(len(node.generators), 1, where)
             self.assertLessEqual(len(node.generators[0].ifs), 1, where)
